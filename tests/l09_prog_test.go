@@ -252,6 +252,26 @@ func TestLimitsOfPrograms(t *testing.T) {
 	}
 }
 
+// The registry holds the names that programs are written and read by, and none where there is no op.
+func TestInstrName(t *testing.T) {
+	for op, form := range progForms {
+		in := does(op, 0, 0)
+		text, _ := impl.WriteProg([]instr{in})
+		written, rest, _ := strings.Cut(strings.TrimSuffix(text, "\n"), " ")
+		name := impl.InstrName(op)
+		if name != form.name || name != written {
+			t.Errorf("op %d: %q, written %q, not %q", op, name, written, form.name)
+		}
+		line := strings.TrimSuffix(name+" "+rest, " ")
+		checkReadProg(t, line+"\n", []instr{in}, -1, true)
+	}
+	for _, op := range append(edges(), -2, 9, 10, 30, 256+1, 1<<32+1) {
+		if _, known := progForms[op]; !known && impl.InstrName(op) != "" {
+			t.Errorf("op %d: %q", op, impl.InstrName(op))
+		}
+	}
+}
+
 func TestProgOk(t *testing.T) {
 	for text, list := range goodProgs() {
 		if !impl.ProgOk(list) {
@@ -813,18 +833,19 @@ func TestProgsShareNothing(t *testing.T) {
 // Many who call at once are answered as one alone is. The first of these calls may be the first of all.
 func TestProgsAtOnce(t *testing.T) {
 	text := "read 0 2\nset 1 7\nadd 0 1\nwrite 5 0\nif 0 6\ncommit\nabort\ngo 0\n"
-	backs := make([]string, 16)
+	backs, names := make([]string, 16), make([]string, 16)
 	var all sync.WaitGroup
 	for i := range backs {
 		all.Go(func() {
+			names[i] = impl.InstrName(1 + i%8)
 			list, _, _ := impl.ReadProg(text)
 			backs[i], _ = impl.WriteProg(list)
 		})
 	}
 	all.Wait()
-	for _, back := range backs {
-		if back != text {
-			t.Errorf("%q", back)
+	for i, back := range backs {
+		if back != text || names[i] != progForms[1+i%8].name {
+			t.Errorf("%q %q", back, names[i])
 		}
 	}
 }

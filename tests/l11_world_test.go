@@ -1005,8 +1005,13 @@ func checkAllAlone(t *testing.T, w world) {
 	}
 }
 
-// eachWorld goes through all worlds that steps can come to; of those that are alike but for the log it takes one.
-func eachWorld(t *testing.T, begin world, yield func(world)) {
+// worldKey is alike of worlds that are so but for their logs.
+func worldKey(w world) string {
+	return fmt.Sprint(w.Store, w.Threads)
+}
+
+// eachWorldBy goes through all worlds that steps can come to; of those whose keys are alike it takes one.
+func eachWorldBy(t *testing.T, begin world, keyOf func(world) string, yield func(world)) {
 	seen, work := map[string]bool{}, []world{begin}
 	for len(work) > 0 {
 		w := work[len(work)-1]
@@ -1015,7 +1020,7 @@ func eachWorld(t *testing.T, begin world, yield func(world)) {
 		for who := range w.Threads {
 			then, ok := impl.StepWorld(w, who)
 			checkReached(t, w, who, then, ok)
-			if key := fmt.Sprint(then.Store, then.Threads); ok && !seen[key] {
+			if key := keyOf(then); ok && !seen[key] {
 				seen[key] = true
 				work = append(work, then)
 			}
@@ -1033,7 +1038,7 @@ func TestAllWaysOfTwoInAWorld(t *testing.T) {
 		{"read 0 2; commit", "write 1 0; abort; commit; read 2 2"},
 	} {
 		ends := 0
-		eachWorld(t, worldOf([]int{5, 7}, lines[:]...), func(w world) {
+		eachWorldBy(t, worldOf([]int{5, 7}, lines[:]...), worldKey, func(w world) {
 			checkAllAlone(t, w)
 			if impl.Idle(w.Threads[0]) && impl.Idle(w.Threads[1]) {
 				ends++
